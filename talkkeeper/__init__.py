@@ -1,1 +1,1 @@
-"""A conversation kept, whole: what one party of a script may say now, and whom it waits for."""
+"""A conversation kept, whole: what one party of a script may say now, whom it waits for, and what it has heard."""

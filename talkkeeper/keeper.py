@@ -1,22 +1,32 @@
 """The keeper of one party: the calls on one object, and what they answer."""
 
-from talkkeeper.part import NOTHING, SPEAKS, TooMany, Unclear, all_rows
+from talkkeeper.part import LISTENS, NOTHING, SPEAKS, TooMany, Unclear, all_rows
 from talkkeeper.script import Place, is_script
 
 NOT_NOW = -1
+NOTHING_CAME = -11
 NOT_AS_TOLD = -22
+NO_ROOM = -28
 CANNOT_BE_KEPT = -71
+NOT_ITS_TURN = -71
 TOO_LARGE = -75
+
+LAST_WORD = 255
+MOST_KEPT = 64
 
 BEGIN = 0
 NOW = 1
 SAY = 2
+HEARD = 3
+TAKE = 4
 
 
 class Keeper:
     def __init__(self):
+        self.me = 0
         self.rows = []
         self.state = 0
+        self.lines = []
 
     def begin(self, p, me, lists):
         if not is_script(p, lists) or me >= p:
@@ -27,8 +37,10 @@ class Keeper:
             return [CANNOT_BE_KEPT]
         except TooMany:
             return [TOO_LARGE]
+        self.me = me
         self.rows = parts[me]
         self.state = 0
+        self.lines = [[] for party in range(p)]
         return [0]
 
     def now(self):
@@ -45,6 +57,37 @@ class Keeper:
             return [NOT_AS_TOLD]
         self.state = row.behind[word]
         return [row.other]
+
+    # A word that isn't one of the state's is kept too: its turn may come in a later state.
+    def heard(self, other, word):
+        if not self.is_another(other) or word > LAST_WORD:
+            return [NOT_AS_TOLD]
+        line = self.lines[other]
+        if len(line) == MOST_KEPT:
+            return [NO_ROOM]
+        line.append(word)
+        return [len(line)]
+
+    def take(self):
+        row = self.rows[self.state]
+        if row.kind != LISTENS:
+            return [NOT_NOW]
+        line = self.lines[row.other]
+        if len(line) == 0:
+            return [NOTHING_CAME]
+        if line[0] not in row.behind:
+            return [NOT_ITS_TURN]
+        word = line.pop(0)
+        self.state = row.behind[word]
+        return [row.other, word]
+
+    def kept(self, other):
+        if not self.is_another(other):
+            return [NOT_AS_TOLD]
+        return [len(self.lines[other])]
+
+    def is_another(self, party):
+        return party != self.me and party < len(self.lines)
 
 
 class Reader:
@@ -75,7 +118,11 @@ def answer_of(keeper, call, numbers, lists):
         return keeper.now()
     if call == SAY:
         return keeper.say(numbers[0])
-    raise NotImplementedError()
+    if call == HEARD:
+        return keeper.heard(numbers[0], numbers[1])
+    if call == TAKE:
+        return keeper.take()
+    return keeper.kept(numbers[0])
 
 
 def answers(calls):

@@ -1,7 +1,7 @@
 import unittest
 
-from tests.helper import (NO_SCRIPT, NOW, OVER, TOP, UNCLEAR, ask, begin, begun, listening_states, many_words, moved,
-                          say)
+from tests.helper import (NO_SCRIPT, NOW, OVER, TAKE, TOP, UNCLEAR, ask, begin, begun, heard, kept, listening_states,
+                          many_words, moved, say)
 
 PLAIN = [[0, 1, 7, OVER]]
 
@@ -296,6 +296,56 @@ class TestBegunAgain(unittest.TestCase):
         got = ask(begin(3, 2, UNCLEAR), begin(2, 0, NO_SCRIPT), begin(3, 2, many_words(17)), begin(2, 0, self.FIRST),
                   NOW)
         self.assertEqual(got, [[-71], [-22], [-75], [0], [1, 1, 1]])
+
+
+class TestBegunAgainWhileWordsAreKept(unittest.TestCase):
+    TALK = [[1, 0, 5, 1, 6, 1], [2, 0, 7, OVER]]
+    REFUSED = [(-22, begin(2, 0, NO_SCRIPT)), (-22, begin(3, 3, TALK)), (-22, begin(3, TOP, TALK)),
+               (-22, begin(9, 0, TALK)), (-22, begin(0, 0, TALK)), (-71, begin(3, 2, UNCLEAR)),
+               (-75, begin(3, 2, many_words(17))), (-75, begin(3, 1, listening_states(7)))]
+
+    def test_nothing_is_kept(self):
+        ahead = [begin(3, 0, self.TALK)] + [heard(1, 5)] * 64 + [heard(2, 7)]
+        got = ask(*ahead, begin(3, 0, self.TALK), NOW, kept(1), kept(2), TAKE, heard(1, 6), TAKE, NOW, TAKE)
+        self.assertEqual(got[len(ahead):], [[0], [2, 1, 5, 6], [0], [0], [-11], [1], [1, 6], [2, 2, 7], [-11]])
+
+    def test_nothing_is_kept_behind_a_word_that_was_not_its_turn(self):
+        got = ask(begin(3, 0, self.TALK), heard(1, 9), TAKE, begin(3, 0, self.TALK), heard(1, 5), TAKE)
+        self.assertEqual(got, [[0], [1], [-71], [0], [1], [1, 5]])
+
+    def test_another_me(self):
+        got = ask(begin(3, 0, self.TALK), heard(1, 5), heard(2, 7), begin(3, 1, self.TALK), kept(0), kept(1), kept(2),
+                  heard(1, 5), heard(0, 5), NOW)
+        self.assertEqual(got[3:], [[0], [0], [-22], [0], [-22], [1], [1, 0, 5, 6]])
+
+    def test_more_parties_and_fewer(self):
+        got = ask(begin(3, 0, self.TALK), heard(3, 1), kept(3), begin(5, 0, self.TALK), heard(3, 1), heard(4, 1),
+                  heard(5, 1), kept(4), kept(5), begin(3, 0, self.TALK), kept(2), kept(3), kept(4), heard(3, 1))
+        self.assertEqual(got, [[0], [-22], [-22], [0], [1], [1], [-22], [1], [-22], [0], [0], [-22], [-22], [-22]])
+
+    def test_another_script(self):
+        got = ask(begin(3, 0, self.TALK), heard(1, 5), heard(2, 7), TAKE, begin(3, 0, [[2, 0, 7, 1], [1, 0, 5, OVER]]),
+                  NOW, TAKE, heard(1, 5), TAKE, heard(2, 7), TAKE, NOW, TAKE, NOW)
+        self.assertEqual(got[4:], [[0], [2, 2, 7], [-11], [1], [-11], [1], [2, 7], [2, 1, 5], [1, 5], [0]])
+
+    def test_refused_all_stays_as_it_was(self):
+        looks = [NOW, kept(1), kept(2), kept(0), kept(3)]
+        for number, call in self.REFUSED:
+            got = ask(begin(3, 0, self.TALK), heard(1, 6), heard(1, 9), heard(2, 7), call, *looks, TAKE, call, *looks,
+                      TAKE, call, *looks, heard(1, 8), heard(3, 8))
+            self.assertEqual(got[:5], [[0], [1], [2], [1], [number]])
+            self.assertEqual(got[5:10], [[2, 1, 5, 6], [2], [1], [-22], [-22]])
+            self.assertEqual(got[10:17], [[1, 6], [number], [2, 2, 7], [1], [1], [-22], [-22]])
+            self.assertEqual(got[17:24], [[2, 7], [number], [0], [1], [0], [-22], [-22]])
+            self.assertEqual(got[24:], [[2], [-22]])
+
+    def test_refused_64_stay_kept_in_their_order(self):
+        ring = [[1, 0, 1, 0, 2, 0, 3, 0]]
+        words = [1 + turn * turn % 3 for turn in range(64)]
+        for number, call in self.REFUSED:
+            got = ask(begin(2, 0, ring), *[heard(1, word) for word in words], call, heard(1, 1), kept(1), *[TAKE] * 65)
+            self.assertEqual(got[65:68], [[number], [-28], [64]])
+            self.assertEqual(got[68:], [[1, word] for word in words] + [[-11]])
 
 
 if __name__ == "__main__":

@@ -4,119 +4,31 @@ import random
 import unittest
 from collections import Counter
 
-from talkkeeper.part import LISTENS, NOTHING, SPEAKS, TooMany, Unclear, all_rows
+from talkkeeper.part import LISTENS, NOTHING, SPEAKS, TooMany, Unclear, all_rows, rows_of
 from talkkeeper.script import Place
-from tests.helper import NOW, OVER, ask, begin, listening_states, many_words, moved, say
+from tests.helper import (OVER, is_along_one_way, listening_states, many_words, moved, parts_by_the_words,
+                          random_script, random_telling)
 
 
-def settle(party, places, reached):
-    """Adds what party comes to from all that's next, until nothing more is added."""
-    changed = True
-    while changed:
-        changed = False
-        for at, place in enumerate(places):
-            if party not in place[:2]:
-                more = reached[at].union(*[reached[onward] for onward in place[3::2]])
-                changed = changed or more != reached[at]
-                reached[at] = more
-
-
-def comes_to(party, places):
-    reached = {at: {at} if party in place[:2] else set() for at, place in enumerate(places)}
-    reached[OVER] = {OVER}
-    settle(party, places, reached)
-    for at in reached:
-        if not reached[at]:
-            reached[at] = {OVER}
-    settle(party, places, reached)
-    return reached
-
-
-def kind_and_other(party, here):
-    """What a state with just these places is, or None if it isn't clear."""
-    if {place[0] for place in here} == {party} and len({place[1] for place in here}) == 1:
-        if len({frozenset(place[2::2]) for place in here}) == 1:
-            return SPEAKS, here[0][1]
-    if {place[1] for place in here} == {party} and len({place[0] for place in here}) == 1:
-        return LISTENS, here[0][0]
-    return None
-
-
-def part_by_the_words(party, places):
-    """The part's rows, or -71 or -75."""
-    reached = comes_to(party, places)
-    states = [frozenset(reached[0])]
-    rows = []
-    for state in states:
-        if state == {OVER}:
-            rows.append((NOTHING, 0, {}))
-            continue
-        here = [places[at] for at in sorted(state - {OVER})]
-        told = None if OVER in state else kind_and_other(party, here)
-        if told is None:
-            return -71
-        ways = [(word, onward) for place in here for word, onward in zip(place[2::2], place[3::2])]
-        words = sorted({word for word, onward in ways})
-        if len(words) > 16:
-            return -75
-        behind = {}
-        for word in words:
-            after = frozenset().union(*[reached[onward] for said, onward in ways if said == word])
-            if after not in states:
-                states.append(after)
-            if len(states) > 64:
-                return -75
-            behind[word] = states.index(after)
-        rows.append((told[0], told[1], behind))
-    return rows
-
-
-def parts_by_the_words(p, places):
-    parts = []
-    for party in range(p):
-        parts.append(part_by_the_words(party, places))
-        if parts[-1] in (-71, -75):
-            return parts[-1]
-    return parts
-
-
-def parts_as_made(p, places):
+def made_or_refused(make):
     try:
-        parts = all_rows(p, [Place(place) for place in places])
+        return make()
     except Unclear:
         return -71
     except TooMany:
         return -75
-    return [[(row.kind, row.other, row.behind) for row in rows] for rows in parts]
 
 
-def random_script(chance):
-    """Few speakers and few words make it likely enough that the script can be kept."""
-    p = chance.randint(2, 4)
-    n = chance.randint(1, chance.choice((3, 6, 12)))
-    lines = [chance.sample(range(p), 2) for line in range(chance.randint(1, 5))]
-    word_sets = [chance.sample(range(6), chance.randint(1, 3)) for line in lines]
-    places = []
-    for at in range(n):
-        which = chance.randrange(len(lines))
-        place = list(lines[which])
-        for word in chance.sample(word_sets[which], len(word_sets[which])):
-            place += [word, OVER if chance.random() < 0.1 else chance.randrange(n)]
-        places.append(place)
-    return p, places
+def values_of(rows):
+    return [(row.kind, row.other, row.behind) for row in rows]
 
 
-def random_telling(chance):
-    """0 tells 1 and 2 in turn, without an end: the one must mind what the other's told, so there are many states."""
-    n = chance.randint(12, 32)
-    words = chance.choice((2, 3, 30))
-    places = []
-    for at in range(n):
-        place = [0, chance.choice((1, 2))]
-        for word in chance.sample(range(words), 2):
-            place += [word, chance.randrange(n)]
-        places.append(place)
-    return 3, places
+def parts_as_made(p, places):
+    return made_or_refused(lambda: [values_of(rows) for rows in all_rows(p, [Place(place) for place in places])])
+
+
+def part_as_made(party, places):
+    return made_or_refused(lambda: values_of(rows_of(party, [Place(place) for place in places])))
 
 
 class TestAgainstTheWords(unittest.TestCase):
@@ -142,28 +54,6 @@ class TestAgainstTheWords(unittest.TestCase):
         expected = [(SPEAKS, 1, {3: 1, 8: 2}), (SPEAKS, 1, {5: 3}), (LISTENS, 1, {2: 4, 6: 0}), (NOTHING, 0, {}),
                     (SPEAKS, 1, {4: 0})]
         self.assertEqual(parts_as_made(2, places)[0], expected)
-
-    def test_calls_on_random_scripts(self):
-        chance = random.Random(2)
-        for turn in range(1500):
-            p, places = random_script(chance)
-            me = chance.randrange(p)
-            parts = parts_by_the_words(p, places)
-            if parts in (-71, -75):
-                self.assertEqual(ask(begin(p, me, places)), [[parts]], (p, places))
-                continue
-            calls = [begin(p, me, places)]
-            expected = [[0]]
-            state = 0
-            for step in range(20):
-                kind, other, behind = parts[me][state]
-                word = chance.randrange(7)
-                calls += [NOW, say(word)]
-                expected.append([kind, other] + sorted(behind) if kind else [0])
-                expected.append([-1] if kind != SPEAKS else [other] if word in behind else [-22])
-                if kind == SPEAKS:
-                    state = behind.get(word, state)
-            self.assertEqual(ask(*calls), expected, (p, me, places))
 
 
 class TestJustTheScript(unittest.TestCase):
@@ -199,6 +89,78 @@ class TestJustTheScript(unittest.TestCase):
                 kept += 1
                 for turn in range(3):
                     self.walk(chance, p, places)
+
+    def test_any_way_through_a_part_is_a_partys_along_some_way_through_the_script(self):
+        chance = random.Random(4)
+        kept = 0
+        while kept < 300:
+            p, places = chance.choice((random_script, random_telling))(chance)
+            parts = parts_as_made(p, places)
+            if parts in (-71, -75):
+                continue
+            kept += 1
+            for party, rows in enumerate(parts):
+                histories = [[] for other in range(p)]
+                state = 0
+                for step in range(30):
+                    kind, other, behind = rows[state]
+                    if kind == NOTHING:
+                        break
+                    word = chance.choice(sorted(behind))
+                    histories[party].append((kind, other, word))
+                    state = behind[word]
+                self.assertTrue(is_along_one_way(places, histories), (p, places, party, histories[party]))
+
+    def test_some_ways_are_no_ways_through_the_script(self):
+        places = [[0, 1, 1, 1, 2, 2], [1, 0, 3, OVER], [1, 0, 4, 0]]
+        self.assertTrue(is_along_one_way(places, [[(SPEAKS, 1, 2), (LISTENS, 1, 4)], []]))
+        self.assertTrue(is_along_one_way(places, [[], [(LISTENS, 0, 2), (SPEAKS, 0, 4), (LISTENS, 0, 1)]]))
+        self.assertFalse(is_along_one_way(places, [[(SPEAKS, 1, 2), (LISTENS, 1, 3)], []]))
+        self.assertFalse(is_along_one_way(places, [[(SPEAKS, 1, 2)], [(LISTENS, 0, 1)]]))
+        self.assertFalse(is_along_one_way(places, [[(LISTENS, 1, 3)], []]))
+
+
+class TestNobodyElsesMatter(unittest.TestCase):
+    def put_between(self, chance, others, places):
+        """One more place of others', put into one of the ways, with all of its words going on as that way did."""
+        found = [list(place) for place in places]
+        at = chance.randrange(len(found))
+        way = 3 + 2 * chance.randrange(len(found[at]) // 2 - 1)
+        after = found[at][way]
+        found[at][way] = len(found)
+        found.append(chance.sample(others, 2))
+        for word in chance.sample(range(6), chance.randint(1, 4)):
+            found[-1] += [word, after]
+        return found
+
+    def test_places_of_others_put_between(self):
+        chance = random.Random(5)
+        seen = Counter()
+        for turn in range(600):
+            p, places = chance.choice((random_script, random_telling))(chance)
+            party = chance.randrange(p)
+            others = [other for other in range(max(p, 3)) if other != party]
+            expected = part_as_made(party, places)
+            seen[expected if expected in (-71, -75) else 0] += 1
+            while len(places) < 32 and chance.random() < 0.8:
+                places = self.put_between(chance, others, places)
+                self.assertEqual(part_as_made(party, places), expected, (party, places))
+        self.assertGreater(seen[0], 100, seen)
+        self.assertGreater(seen[-71], 10, seen)
+
+    def test_a_place_of_others_put_ahead(self):
+        for party, others in ((0, [1, 2]), (1, [2, 0]), (2, [0, 1])):
+            for places in (listening_states(5), many_words(16)):
+                ahead = [others + [7, 1, 8, 1]] + moved(places, 1)
+                self.assertEqual(part_as_made(party, ahead), part_as_made(party, places))
+
+    def test_what_hangs_on_them_changes(self):
+        places = [[0, 2, 5, 1], [0, 1, 6, 2], [0, 2, 7, OVER]]
+        self.assertEqual(part_as_made(2, places), [(LISTENS, 0, {5: 1}), (LISTENS, 0, {7: 2}), (NOTHING, 0, {})])
+        places[1] = [0, 1, 6, OVER]
+        self.assertEqual(part_as_made(2, places), [(LISTENS, 0, {5: 1}), (NOTHING, 0, {})])
+        places[1] = [0, 1, 6, OVER, 8, 2]
+        self.assertEqual(part_as_made(2, places), -71)
 
 
 if __name__ == "__main__":
